@@ -16,6 +16,8 @@ const (
 	sumBase = 65521
 )
 
+func isAmount(n int) bool { return n >= 0 && n <= MaxAmount }
+
 // noNumber tells at which place of a text there is no number.
 type noNumber struct {
 	place int
