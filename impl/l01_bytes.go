@@ -18,6 +18,8 @@ const (
 
 func isAmount(n int) bool { return n >= 0 && n <= MaxAmount }
 
+func isSomeAmount(n int) bool { return n >= 1 && n <= MaxAmount }
+
 // noNumber tells at which place of a text there is no number.
 type noNumber struct {
 	place int
