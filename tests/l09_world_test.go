@@ -935,22 +935,6 @@ func (c *chooser) asked(n impl.Node) impl.Op {
 	return impl.Op{Kind: impl.OpTick}
 }
 
-// somewhere is all of a key that nodes hold, and that was sent and not seen yet.
-func somewhere(w impl.World, key string) int {
-	sum := 0
-	for _, k := range w.Keepers {
-		sum += impl.Holding(k.Node.Purses, key)
-		for _, s := range k.Node.Out {
-			seen := w.Keepers[s.To].Node.Seen
-			from := seen[slices.IndexFunc(seen, func(s impl.Seen) bool { return s.From == k.Node.Id })]
-			if s.Key == key && s.Id >= from.Low && !slices.Contains(from.Ids, s.Id) {
-				sum += s.N
-			}
-		}
-	}
-	return sum
-}
-
 // TestAWorldStaysRight does what may happen to worlds, and holds them against what the sentences tell.
 func TestAWorldStaysRight(t *testing.T) {
 	codes := map[[2]int]int{}
@@ -1001,8 +985,8 @@ func TestWhatIsMintedIsSomewhere(t *testing.T) {
 			w, _ = impl.WorldDo(w, c.event(w))
 			for i := range 4 {
 				key := "k" + strconv.Itoa(i)
-				if minted := impl.PurseOf(w.Keepers[0].Node.Purses, key).Minted; somewhere(w, key) != minted {
-					t.Fatalf("of %s %d were minted, and there are %d", key, minted, somewhere(w, key))
+				if minted := impl.PurseOf(w.Keepers[0].Node.Purses, key).Minted; plainTotal(w, key) != minted {
+					t.Fatalf("of %s %d were minted, and there are %d", key, minted, plainTotal(w, key))
 				}
 			}
 		}
